@@ -289,9 +289,9 @@ func TestProductsByHand(t *testing.T) {
 	}
 }
 
-// Whether a machine fuses is its own affair, so the text must show that it may not: each product of this chapter's file stands alone in a conversion.
-func TestEachProductIsRoundedByItself(t *testing.T) {
-	file, err := parser.ParseFile(token.NewFileSet(), "../impl/l04_mode.go", nil, parser.SkipObjectResolution)
+// Whether a machine fuses is its own affair, so the text must show that it may not: each product of such a chapter's file stands alone in a conversion.
+func eachProductIsRoundedByItself(t *testing.T, name string) {
+	file, err := parser.ParseFile(token.NewFileSet(), name, nil, parser.SkipObjectResolution)
 	if err != nil {
 		t.Fatal(err)
 	}
@@ -318,8 +318,12 @@ func TestEachProductIsRoundedByItself(t *testing.T) {
 		return true
 	})
 	if products == 0 || products != rounded {
-		t.Errorf("%d products, %d of them rounded by themselves", products, rounded)
+		t.Errorf("%s: %d products, %d of them rounded by themselves", name, products, rounded)
 	}
+}
+
+func TestEachProductOfModesIsRoundedByItself(t *testing.T) {
+	eachProductIsRoundedByItself(t, "../impl/l04_mode.go")
 }
 
 func TestQuotientsByHand(t *testing.T) {
