@@ -824,6 +824,61 @@ func TestPowerIsBuiltItsWay(t *testing.T) {
 	}
 }
 
+// What sources registered is read by an exported function, thrown away there, and read nowhere else: no answer hangs on it.
+func TestWhatSourcesRegisteredDecidesNothing(t *testing.T) {
+	file, err := parser.ParseFile(token.NewFileSet(), "../impl/l07_power.go", nil, 0)
+	if err != nil {
+		t.Fatal(err)
+	}
+	readByExported := 0
+	for _, d := range file.Decls {
+		f, ok := d.(*ast.FuncDecl)
+		if !ok {
+			continue
+		}
+		named, thrownAway := usesOf(f, "powerAt")
+		switch {
+		case f.Name.Name == "init":
+			if named == 0 {
+				t.Error("init registers nothing")
+			}
+		case named != thrownAway:
+			t.Error("decides by it:", f.Name.Name)
+		case f.Name.IsExported():
+			readByExported += named
+		case named > 0:
+			t.Error("reads it inside:", f.Name.Name)
+		}
+	}
+	if readByExported == 0 {
+		t.Error("no exported function reads it")
+	}
+}
+
+// usesOf counts how often a function names a variable, and how often as what is given to the blank.
+func usesOf(f *ast.FuncDecl, variable string) (int, int) {
+	named, thrownAway := 0, 0
+	ast.Inspect(f, func(n ast.Node) bool {
+		switch x := n.(type) {
+		case *ast.Ident:
+			if x.Name == variable {
+				named++
+			}
+		case *ast.AssignStmt:
+			if len(x.Lhs) == 1 && isNamed(x.Lhs[0], "_") && isNamed(x.Rhs[0], variable) {
+				thrownAway++
+			}
+		}
+		return true
+	})
+	return named, thrownAway
+}
+
+func isNamed(e ast.Expr, name string) bool {
+	id, ok := e.(*ast.Ident)
+	return ok && id.Name == name
+}
+
 func pointsToItsOwnKind(spec *ast.TypeSpec, found map[string]bool) {
 	fields, ok := spec.Type.(*ast.StructType)
 	if !ok {
