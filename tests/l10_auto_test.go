@@ -74,8 +74,8 @@ func pressByWords(p impl.Pilot, key, many int) (impl.Pilot, bool) {
 		p.Vert = 2
 	case 3:
 		p.Target = many
-		away := many > p.Height && p.Rate < 0 || many < p.Height && p.Rate > 0
-		if away && (p.Vert == 2 || p.Vert == 3) {
+		up, down := many > p.Height && p.Rate > 0, many < p.Height && p.Rate < 0
+		if !up && !down && (p.Vert == 2 || p.Vert == 3) {
 			p.Vert, p.Target, p.Rate = 1, p.Height, 0
 		}
 	case 4:
@@ -417,10 +417,17 @@ func TestKeyTargetByHand(t *testing.T) {
 			{"far off the other way, down", vert(mode, 500, 100, -20), impl.KeyTarget, 60000, held},
 			{"led away ahead, leads to it now", vert(mode, 500, 100, 20), impl.KeyTarget, 900, vert(mode, 500, 900, 20)},
 			{"led away ahead, leads away still", vert(mode, 500, 100, 20), impl.KeyTarget, 101, held},
-			{"at the Height itself, up", vert(mode, 500, 900, 20), impl.KeyTarget, 500, vert(mode, 500, 500, 20)},
-			{"at the Height itself, down", vert(mode, 500, 100, -20), impl.KeyTarget, 500, vert(mode, 500, 500, -20)},
-			{"a Rate of 0, above", vert(mode, 500, 100, 0), impl.KeyTarget, 900, vert(mode, 500, 900, 0)},
-			{"a Rate of 0, below", vert(mode, 500, 900, 0), impl.KeyTarget, 100, vert(mode, 500, 100, 0)},
+			{"at the Height itself, up", vert(mode, 500, 900, 20), impl.KeyTarget, 500, held},
+			{"at the Height itself, down", vert(mode, 500, 100, -20), impl.KeyTarget, 500, held},
+			{"at the Height itself as it is", vert(mode, 500, 500, 20), impl.KeyTarget, 500, held},
+			{"at the bottom itself", vert(mode, 0, 900, 20), impl.KeyTarget, 0, vert(1, 0, 0, 0)},
+			{"at the top itself", vert(mode, 60000, 100, -20), impl.KeyTarget, 60000, vert(1, 60000, 60000, 0)},
+			{"a Rate of 0, above", vert(mode, 500, 100, 0), impl.KeyTarget, 900, held},
+			{"a Rate of 0, below", vert(mode, 500, 900, 0), impl.KeyTarget, 100, held},
+			{"a Rate of 0, one above", vert(mode, 500, 100, 0), impl.KeyTarget, 501, held},
+			{"a Rate of 0, one below", vert(mode, 500, 900, 0), impl.KeyTarget, 499, held},
+			{"a Rate of 0 at the Height itself", vert(mode, 500, 900, 0), impl.KeyTarget, 500, held},
+			{"a Rate of 0, the Target as it is", vert(mode, 500, 900, 0), impl.KeyTarget, 900, held},
 		})
 	}
 	for _, mode := range []int{impl.VertOff, impl.VertHold, impl.VertPath} {
@@ -429,6 +436,51 @@ func TestKeyTargetByHand(t *testing.T) {
 				askKeys(t, []keyCase{{"in another mode", vert(mode, 500, 900, rate), impl.KeyTarget, many, vert(mode, 500, many, rate)}})
 			}
 		}
+	}
+}
+
+// A target that is not led to is held at the Height, and nothing of Lat goes with it; a target outside does nothing.
+func TestKeyTargetLeavesTheRestAlone(t *testing.T) {
+	for _, mode := range []int{impl.VertClimb, impl.VertCapture} {
+		for side := impl.LatOff; side <= impl.LatCapture; side++ {
+			still, held := busyPilot(mode, side), busyPilot(impl.VertHold, side)
+			still.Rate, held.Target, held.Rate = 0, 500, 0
+			askKeys(t, []keyCase{
+				{"a Rate of 0", still, impl.KeyTarget, 700, held},
+				{"the Height itself", busyPilot(mode, side), impl.KeyTarget, 500, held},
+			})
+			for _, many := range append([]int{-1, 60001}, farNumbers...) {
+				refusesKey(t, "a Rate of 0 and a target outside", still, impl.KeyTarget, many)
+			}
+		}
+	}
+}
+
+// Promise 10: what KeyTarget leaves in a climb or a capture is led to, and ends held at the new target.
+func TestWhatKeyTargetLeavesClimbingEndsAtIt(t *testing.T) {
+	r := rand.New(rand.NewSource(106))
+	held, climbing := 0, 0
+	for range 3000 {
+		p := pilotFrom(r)
+		p.Vert = []int{impl.VertClimb, impl.VertCapture}[r.Intn(2)]
+		many := min(max(p.Height+r.Intn(41)-20, 0), 60000)
+		after, ok := impl.Press(p, impl.KeyTarget, many)
+		if !ok {
+			t.Fatalf("refused: %+v %d", p, many)
+		}
+		if after.Vert == impl.VertHold {
+			held++
+			if after.Target != p.Height || after.Height != p.Height || after.Rate != 0 {
+				t.Fatalf("of %+v, %d: %+v", p, many, after)
+			}
+			continue
+		}
+		climbing++
+		list, _ := impl.Ticks(after, make([]int, 40))
+		climbIsSo(t, after, append([]impl.Pilot{after}, list...))
+	}
+	if held < 200 || climbing < 200 {
+		t.Error("too few of a kind were tried:", held, climbing)
 	}
 }
 
