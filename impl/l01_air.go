@@ -1,5 +1,7 @@
 package impl
 
+import "cmp"
+
 const (
 	MaxTick = 100000000
 	MaxRows = 20
@@ -55,7 +57,7 @@ func allWithin[N number](list []N, low N, high N) bool {
 	return true
 }
 
-func ascending[N number](list []N) bool {
+func ascending[T cmp.Ordered](list []T) bool {
 	for i := 1; i < len(list); i++ {
 		if list[i] <= list[i-1] {
 			return false
