@@ -1299,3 +1299,69 @@ func TestTheDeskIsBuiltItsWay(t *testing.T) {
 		t.Errorf("a session does not go through its lines by a range over a text (%q)", ranged)
 	}
 }
+
+// callsDo tells whether a function calls Do of a Once.
+func callsDo(f *ast.FuncDecl, once string) bool {
+	found := false
+	ast.Inspect(f, func(n ast.Node) bool {
+		if call, ok := n.(*ast.CallExpr); ok {
+			sel, ok := call.Fun.(*ast.SelectorExpr)
+			found = found || ok && sel.Sel.Name == "Do" && isNamed(sel.X, once)
+		}
+		return true
+	})
+	return found
+}
+
+// writtenIn counts how often a function, with the literals in it, gives a variable something.
+func writtenIn(f *ast.FuncDecl, variable string) int {
+	written := 0
+	ast.Inspect(f, func(n ast.Node) bool {
+		if given, ok := n.(*ast.AssignStmt); ok {
+			for _, left := range given.Lhs {
+				if isNamed(left, variable) {
+					written++
+				}
+			}
+		}
+		return true
+	})
+	return written
+}
+
+// The registry and its Once stand in an exported function: made there and read there, thrown away, and named nowhere else, so that no answer hangs on them.
+func TestTheRegistryDecidesNothing(t *testing.T) {
+	file, err := parser.ParseFile(token.NewFileSet(), "../impl/l21_desk.go", nil, 0)
+	if err != nil {
+		t.Fatal(err)
+	}
+	once, kept := onceOf(file)
+	if len(once) != 1 || len(kept) != 1 {
+		t.Fatal("not one registry and its Once:", kept, once)
+	}
+	readByExported := 0
+	for _, d := range file.Decls {
+		f, ok := d.(*ast.FuncDecl)
+		if !ok {
+			continue
+		}
+		named, thrownAway := usesOf(f, kept[0])
+		asked, _ := usesOf(f, once[0])
+		if named == 0 && asked == 0 {
+			continue
+		}
+		if !f.Name.IsExported() || f.Recv != nil {
+			t.Error("names it inside:", f.Name.Name)
+		}
+		if named != thrownAway+writtenIn(f, kept[0]) {
+			t.Error("decides by it:", f.Name.Name)
+		}
+		if asked != 1 || !callsDo(f, once[0]) {
+			t.Error("reads what may not have been made yet, or asks its Once otherwise than by Do:", f.Name.Name)
+		}
+		readByExported += thrownAway
+	}
+	if readByExported == 0 {
+		t.Error("no exported function reads it")
+	}
+}
